@@ -1,1 +1,1 @@
-"""Afloat: what a hull displaces, and where the middle of that lies. The calls are in hullafloat.desk."""
+"""Afloat: what a hull displaces, how deep she floats, whether she stands. The calls are in hullafloat.desk."""

@@ -8,8 +8,8 @@ determinant, are whole numbers, so every division below leaves no rest.
 
 from hullafloat.quotient import least_multiple
 
-# What every integral here is told in: the least number that 1 to 5 divide, for cubics times a place.
-PARTS = 60
+# What every integral here is told in: the least number that 1 to 10 divide, for the cube of a cubic.
+PARTS = 2520
 
 
 # Battens whose nails stand at the same places share one scale, whatever their values: sums of them need no other.
@@ -42,8 +42,16 @@ class Batten:
 
     # The integral of place times value from the first nail to x, times PARTS and scale.
     def moment(self, x):
-        levered = [times_place(self.pieces[k], self.nails[k]) for k in range(len(self.pieces))]
+        # A piece counts from its own nail: the place is the nail's and the distance from it.
+        levered = [product(self.pieces[k], [self.nails[k], 1]) for k in range(len(self.pieces))]
         return swept(self.nails, levered, x)
+
+    # The integral of the values' cubes from the first nail to the last, times PARTS and the cube of scale.
+    def cube_integral(self):
+        return sum([
+            piece_cube_integral(self.pieces[k], self.nails[k + 1] - self.nails[k])
+            for k in range(len(self.pieces))
+        ])
 
 
 # The determinants of the first 0, 1, 2 .. rows; all are above 0, as each row's middle outweighs its sides.
@@ -89,14 +97,6 @@ def cubic(gap, multiple, scale, ys, bends):
     ]
 
 
-# A piece counts from its own nail: the place is the nail's and the distance from it.
-def times_place(piece, nail):
-    levered = [nail * coefficient for coefficient in piece] + [0]
-    for k in range(len(piece)):
-        levered[k + 1] += piece[k]
-    return levered
-
-
 def swept(nails, pieces, x):
     total = 0
     for k in range(len(pieces)):
@@ -112,3 +112,32 @@ def piece_integral(piece, reach):
         total += piece[k] * power * (PARTS // (k + 1))
         power *= reach
     return total
+
+
+# Over the whole gap to the next nail.
+def piece_cube_integral(piece, gap):
+    stretched = in_gaps(piece, gap)
+    squares = product(stretched, stretched)
+    total = 0
+    for k in range(len(stretched)):
+        total += stretched[k] * sum([squares[n] * (PARTS // (n + k + 1)) for n in range(len(squares))])
+    return total * gap
+
+
+# The piece with its gap as the unit of length: every power of the distance is 1 at the next nail.
+def in_gaps(piece, gap):
+    stretched = []
+    power = 1
+    for coefficient in piece:
+        stretched.append(coefficient * power)
+        power *= gap
+    return stretched
+
+
+# The coefficients of the product of two polynomials, lowest power first.
+def product(first, second):
+    coefficients = [0] * (len(first) + len(second) - 1)
+    for k in range(len(first)):
+        for n in range(len(second)):
+            coefficients[k + n] += first[k] * second[n]
+    return coefficients

@@ -1,6 +1,7 @@
 """The desk: takes a list of calls on one new object and gives back what they answer."""
 
 from hullafloat.hull import Hull
+from hullafloat.loads import are_loads, lever
 from hullafloat.table import NO_FAULT, first_fault
 
 MAKE = 1
@@ -8,18 +9,17 @@ AREA = 2
 VOLUME = 3
 CENTRE = 4
 META = 5
+DEPTH = 6
 
 # Of each call: how many whole numbers it has, and how many rows.
 SHAPES = {1: (0, 3), 2: (1, 0), 3: (1, 0), 4: (1, 0), 5: (1, 0), 6: (0, 2), 7: (0, 2)}
 
+NO_LOADS = -1
 NO_TABLE = -3
 OUTSIDE_LEVELS = -4
 NO_VOLUME = -5
-
-
-# A call that the document has and this program does not answer yet.
-class NotBuilt(Exception):
-    pass
+NO_HEIGHT = -5
+BEYOND_DEPTHS = -9
 
 
 class Desk:
@@ -33,7 +33,7 @@ class Desk:
             return [NO_TABLE]
         if call in (AREA, VOLUME, CENTRE, META):
             return answer_at(self.hull, call, numbers[0])
-        raise NotBuilt(f"call {call} is not built yet")
+        return answer_loaded(self.hull, call, rows[0], rows[1])
 
     def make(self, places, heights, half_breadths):
         fault = first_fault(places, heights, half_breadths)
@@ -49,11 +49,25 @@ def answer_at(hull, call, z):
         return [0] + hull.area(z)
     if call == VOLUME:
         return [0] + hull.volume(z)
+    if not hull.has_volume(z):
+        return [NO_VOLUME]
     if call == CENTRE:
-        if not hull.has_volume(z):
-            return [NO_VOLUME]
         return [0] + hull.centre(z)
-    raise NotBuilt(f"call {call} is not built yet")
+    return [0] + hull.metacentre(z)
+
+
+def answer_loaded(hull, call, weights, heights):
+    if not are_loads(weights, heights):
+        return [NO_LOADS]
+    weight = sum(weights)
+    if weight == 0 or hull.too_high():
+        return [BEYOND_DEPTHS]
+    z = hull.floating_height(weight)
+    if z is None:
+        return [NO_HEIGHT]
+    if call == DEPTH:
+        return [0, z]
+    return [0] + hull.stand(z, weight, lever(weights, heights))
 
 
 def answers(calls):

@@ -9,6 +9,14 @@ def greatest_divisor(first, second):
     return first
 
 
+# The greatest number that divides number, which is above 0, and all of numbers.
+def shared_divisor(numbers, number):
+    divisor = number
+    for other in numbers:
+        divisor = greatest_divisor(divisor, abs(other))
+    return divisor
+
+
 def least_multiple(numbers):
     multiple = 1
     for number in numbers:

@@ -28,6 +28,18 @@ def centre(z):
     return [4, z]
 
 
+def meta(z):
+    return [5, z]
+
+
+def depth(weights, heights):
+    return [6, len(weights), *weights, len(heights), *heights]
+
+
+def stand(weights, heights):
+    return [7, len(weights), *weights, len(heights), *heights]
+
+
 def split(answered):
     """The answers one by one, each without its count."""
     parts = []
@@ -100,6 +112,14 @@ def boole(function, start, end):
     return total * (end - start) / 90
 
 
+def nine_points(function, start, end):
+    """The integral, exactly, of anything up to the ninth power."""
+    eighth = Fraction(end - start) / 8
+    weights = (989, 5888, -928, 10496, -4540, 10496, -928, 5888, 989)
+    total = sum(weight * function(start + k * eighth) for k, weight in enumerate(weights))
+    return total * (end - start) / 28350
+
+
 def stretches(marks, end):
     """The stretches between the marks up to end."""
     return [(low, min(high, end)) for low, high in zip(marks, marks[1:]) if low < end]
@@ -139,6 +159,17 @@ class Hull:
             return None
         return (self.upward(self.lever, z) / volume, self.upward(lambda h: h * self.area(h), z) / volume)
 
+    def cubes(self, z):
+        line = self.waterline(z)
+        return sum(nine_points(lambda x: line.at(x) ** 3, low, high)
+                   for low, high in stretches(self.places, self.places[-1]))
+
+    def metacentre(self, z):
+        volume = self.volume(z)
+        if volume <= 0:
+            return None
+        return self.centre(z)[1] + Fraction(2, 3) * self.cubes(z) / volume
+
 
 def told(quotient):
     quotient = Fraction(quotient)
@@ -146,12 +177,14 @@ def told(quotient):
 
 
 def expected(hull, z):
-    """The answers of area, volume and centre at z."""
+    """The answers of area, volume, centre and meta at z."""
     middle = hull.centre(z)
+    metacentre = hull.metacentre(z)
     return [
         [0, *told(hull.area(z))],
         [0, *told(hull.volume(z))],
         [-5] if middle is None else [0, *told(middle[0]), *told(middle[1])],
+        [-5] if metacentre is None else [0, *told(metacentre)],
     ]
 
 

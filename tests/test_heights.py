@@ -1,32 +1,12 @@
-"""Promises 2 to 4: area, volume and centre at a height, with -3, -4 and -5."""
+"""Promises 2 to 5: area, volume, centre and meta at a height, with -3, -4 and -5."""
 
 import unittest
+from fractions import Fraction
 
+from asking import BOX, BULGE, EVENED, NOTHING, OVERFULL, SWING, SWING_ALONG, TAPER, WEDGE, asked
 from hullafloat.desk import answers
 from reference import GREATEST, GREATEST_ARGUMENT, LEAST_ARGUMENT, Hull
-from reference import area, centre, expected, make, rising, scattered, split, volume
-
-
-def asked(table, *calls):
-    """What the calls answer once the table is made."""
-    flat = make(*table)
-    for call in calls:
-        flat = flat + call
-    answered = split(answers(flat))
-    if answered[0] != [0, 0, 0]:
-        raise AssertionError(answered[0])
-    return answered[1:]
-
-
-BOX = ([0, 10], [0, 4], [3] * 4)
-WEDGE = ([0, 10], [0, 4], [0, 0, 4, 4])
-TAPER = ([0, 6], [0, 2], [0, 6, 0, 6])
-BULGE = ([0, 1, 2], [0, 1], [0, 1, 0] * 2)
-# Up each station 0, 0, 4: the bend at the middle is 3/2, so h^3/8 - h/2 below it and t + 3t^2/4 - t^3/8 above.
-SWING = ([0, 10], [0, 2, 4], [0, 0, 0, 0, 4, 4])
-# Up each station 1, 0, 7: up to the middle level as much lies below 0 as above.
-EVENED = ([0, 10], [0, 2, 4], [1, 1, 0, 0, 7, 7])
-NOTHING = ([0, 10], [0, 4], [0] * 4)
+from reference import area, centre, expected, make, meta, nine_points, rising, scattered, told, volume
 
 
 class Area(unittest.TestCase):
@@ -126,6 +106,65 @@ class Centre(unittest.TestCase):
         self.assertEqual(asked(SWING, centre(1), centre(2), centre(3)), [[-5], [-5], [0, 5, 1, 32, 5]])
 
 
+class Meta(unittest.TestCase):
+    def test_box(self):
+        # z/2 and 2/3 of 270 by 60z.
+        self.assertEqual(asked(BOX, meta(1), meta(2), meta(3), meta(4)),
+                         [[0, 7, 2], [0, 5, 2], [0, 5, 2], [0, 11, 4]])
+
+    def test_box_away_from_0(self):
+        self.assertEqual(asked(([7, 17], [-9, -5], [3] * 4), meta(-8), meta(-5)), [[0, -11, 2], [0, -25, 4]])
+
+    def test_may_be_0(self):
+        # At h above the first level she has h/2 and, above that, 2/3 of 6^4 by 72h.
+        self.assertEqual(asked(([0, 6], [-7, 5], [6] * 4), meta(-5), meta(-1)), [[0, 0, 1], [0, -2, 1]])
+
+    def test_wedge_at_levels_and_between(self):
+        # 2z/3 up and as much again.
+        self.assertEqual(asked(WEDGE, meta(1), meta(2), meta(3), meta(4)),
+                         [[0, 4, 3], [0, 8, 3], [0, 4, 1], [0, 16, 3]])
+
+    def test_taper(self):
+        # z/2 and 2/3 of 6^4/4 by 36z.
+        self.assertEqual(asked(TAPER, meta(1), meta(2)), [[0, 13, 2], [0, 4, 1]])
+
+    def test_three_stations(self):
+        # The cubes' integral is twice (27/4 - 27/6 + 9/8 - 1/10)/8, the volume 5/2.
+        self.assertEqual(asked(BULGE, meta(1)), [[0, 431, 600]])
+
+    def test_half_breadth_below_0_counts_as_below_0(self):
+        # At 1 she is -1/4 wide on each side, the volume is 25/4: 4/25 and 2/3 of -10/64 by 25/4.
+        self.assertEqual(asked(EVENED, meta(1)), [[0, 43, 300]])
+
+    def test_half_breadth_below_0_on_some_of_the_way(self):
+        # The cubes' integral is -1/20 to the middle and 3693/140 from there, the volume 6.
+        self.assertEqual(asked(SWING_ALONG, meta(1)), [[0, 1079, 315]])
+
+    def test_three_levels(self):
+        # At 4, 4 wide: the volume is 60, its moment 680/3.
+        self.assertEqual(asked(SWING, meta(4)), [[0, 98, 9]])
+
+    def test_no_breadth_left_at_the_last_level(self):
+        # The moment is 40/3, the volume 60; nothing is added where she has no breadth.
+        self.assertEqual(asked(OVERFULL, meta(4)), [[0, 2, 9]])
+        self.assertEqual(asked(OVERFULL, centre(4)), [[0, 5, 1, 2, 9]])
+
+    def test_no_volume_at_the_first_level(self):
+        for table in (BOX, WEDGE, SWING, EVENED, OVERFULL):
+            self.assertEqual(asked(table, meta(0)), [[-5]])
+
+    def test_no_volume_further_up(self):
+        self.assertEqual(asked(NOTHING, meta(0), meta(2), meta(4)), [[-5]] * 3)
+        self.assertEqual(asked(EVENED, meta(2)), [[-5]])
+
+    def test_volume_below_0(self):
+        self.assertEqual(asked(SWING, meta(1), meta(2)), [[-5], [-5]])
+
+    def test_the_measure_of_cubes_is_exact(self):
+        for power in range(10):
+            self.assertEqual(nine_points(lambda x: x ** power, 1, 3) * (power + 1), 3 ** (power + 1) - 1)
+
+
 class Refusals(unittest.TestCase):
     BEYOND = (LEAST_ARGUMENT, -2 ** 32, -GREATEST - 1, -GREATEST, -10, GREATEST, 2 ** 32, GREATEST_ARGUMENT)
 
@@ -145,8 +184,10 @@ class Refusals(unittest.TestCase):
                 self.assertEqual(asked(NOTHING, [call, z]), [[-4]])
 
     def test_a_refusal_leaves_the_object_as_it_was(self):
-        self.assertEqual(asked(BOX, area(5), centre(0), volume(-1), area(4), volume(4), centre(4)),
-                         [[-4], [-5], [-4], [0, 60, 1], [0, 240, 1], [0, 5, 1, 2, 1]])
+        self.assertEqual(asked(BOX, area(5), centre(0), volume(-1), meta(0), meta(5),
+                               area(4), volume(4), centre(4), meta(4)),
+                         [[-4], [-5], [-4], [-5], [-4],
+                          [0, 60, 1], [0, 240, 1], [0, 5, 1, 2, 1], [0, 11, 4]])
 
 
 class AgainstTheDefinition(unittest.TestCase):
@@ -155,7 +196,7 @@ class AgainstTheDefinition(unittest.TestCase):
         calls = []
         answers_expected = []
         for z in heights:
-            calls = calls + [area(z), volume(z), centre(z)]
+            calls = calls + [area(z), volume(z), centre(z), meta(z)]
             answers_expected = answers_expected + expected(hull, z)
         self.assertEqual(asked(table, *calls), answers_expected)
 
@@ -197,6 +238,10 @@ class GreatestMeasures(unittest.TestCase):
                          [[0, flat, 1], [0, flat, 1], [0, 0, 1], [0, 2 * flat * GREATEST, 1]])
         self.assertEqual(asked(table, centre(GREATEST), centre(1 - GREATEST), centre(-GREATEST)),
                          [[0, GREATEST, 2, 0, 1], [0, GREATEST, 2, 1 - 2 * GREATEST, 2], [-5]])
+        # The half-breadth's square by three times the height.
+        self.assertEqual(asked(table, meta(GREATEST), meta(1 - GREATEST), meta(-GREATEST)),
+                         [[0, *told(Fraction(GREATEST, 6))],
+                          [0, *told(Fraction(1, 2) - GREATEST + Fraction(GREATEST ** 2, 3))], [-5]])
 
 
 if __name__ == "__main__":

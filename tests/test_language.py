@@ -85,6 +85,9 @@ class Forms(unittest.TestCase):
                 self.assertEqual(len(node.targets), 1, where)
             if isinstance(node, (ast.FunctionDef, ast.ClassDef)):
                 self.assertEqual(node.decorator_list, [], where)
+            if isinstance(node, ast.BinOp) and isinstance(node.op, ast.Pow):
+                self.assertIsInstance(node.right, ast.Constant, where)
+                self.assertIn(node.right.value, range(65), where)
             if isinstance(node, ast.Constant):
                 self.assertNotIsInstance(node.value, (float, bytes, complex), where)
 
@@ -120,6 +123,28 @@ class Names(unittest.TestCase):
                 if bound not in DUNDERS:
                     self.assertRegex(bound, PLAIN, name)
                     self.assertNotIn(bound, python, name)
+
+    def test_locals_are_not_called_like_classes_or_imports(self):
+        for name, tree in trees():
+            taken = {node.name for node in tree.body if isinstance(node, ast.ClassDef)}
+            for node in tree.body:
+                if isinstance(node, ast.ImportFrom):
+                    taken.update(alias.name for alias in node.names)
+            for node in ast.walk(tree):
+                if isinstance(node, (ast.arg, ast.Name)):
+                    self.assertEqual(set(bound_names(node)) & taken, set(), name)
+
+    def test_no_two_files_draw_from_one_another(self):
+        drawn = {}
+        for name, tree in trees():
+            modules = [node.module for node in tree.body if isinstance(node, ast.ImportFrom)]
+            drawn[name] = {module.replace("hullafloat.", "") + ".py" for module in modules}
+        self.assertEqual(drawn["__init__.py"], set())
+        while drawn:
+            leaves = [name for name in drawn if not drawn[name] & set(drawn)]
+            self.assertNotEqual(leaves, [], drawn)
+            for name in leaves:
+                drawn.pop(name)
 
     def test_names_that_are_read_are_known(self):
         for name, tree in trees():
